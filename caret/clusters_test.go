@@ -89,7 +89,7 @@ func TestClustersByRule(t *testing.T) {
 	}
 }
 
-func among(kind api.Kind, kinds ...api.Kind) bool { return slices.Contains(kinds, kind) }
+func among[T comparable](one T, some ...T) bool { return slices.Contains(some, one) }
 
 // joined: by the document's rules, each looking back for itself; i is above 0.
 func joined(k []api.Kind, i int) bool {

@@ -11,11 +11,23 @@ import (
 	"caret/caret"
 )
 
-// answers: what each call on a text alone answers.
+// leveled: what Levels answers.
+type leveled struct {
+	levels    []int
+	paragraph int
+	err       api.Errno
+}
+
+func (a leveled) equal(b leveled) bool {
+	return slices.Equal(a.levels, b.levels) && a.paragraph == b.paragraph && a.err == b.err
+}
+
+// answers: what each call on a text answers.
 type answers struct {
 	runes    []api.Rune
 	clusters []int
 	snapped  [8]int
+	leveled  [4]leveled
 }
 
 func ask(text string) answers {
@@ -24,11 +36,39 @@ func ask(text string) answers {
 		a.snapped[2*i] = caret.Snap(text, offset, false)
 		a.snapped[2*i+1] = caret.Snap(text, offset, true)
 	}
+	for base := range a.leveled {
+		l := &a.leveled[base]
+		l.levels, l.paragraph, l.err = caret.Levels(text, base)
+	}
 	return a
 }
 
 func (a answers) equal(b answers) bool {
+	for base := range a.leveled {
+		if !a.leveled[base].equal(b.leveled[base]) {
+			return false
+		}
+	}
 	return slices.Equal(a.runes, b.runes) && slices.Equal(a.clusters, b.clusters) && a.snapped == b.snapped
+}
+
+// spoil does to an answer what a caller may do to it.
+func (a *answers) spoil() {
+	for i := range a.runes {
+		a.runes[i] = api.Rune{Rune: -1, From: -1, To: -1}
+	}
+	a.runes = append(a.runes, api.Rune{})
+	a.clusters = spoilt(a.clusters)
+	for base := range a.leveled {
+		a.leveled[base].levels = spoilt(a.leveled[base].levels)
+	}
+}
+
+func spoilt(list []int) []int {
+	for i := range list {
+		list[i] = -1
+	}
+	return append(list, -1)
 }
 
 // Each single byte, each two bytes, and each three that begin as a long rune does.
@@ -60,6 +100,9 @@ func TestNoCallPanicsAtAnyNumber(t *testing.T) {
 			if got := caret.Snap("e\u0301x", offset, true); got < 0 || got > 4 {
 				t.Errorf("P1: Snap(.., %d, true) = %d", offset, got)
 			}
+			if _, _, err := caret.Levels("a", offset); err != api.OK && err != api.ErrBase {
+				t.Errorf("P1: Levels(.., %d): %d", offset, err)
+			}
 		}
 	}
 }
@@ -68,14 +111,19 @@ func TestNoCallPanicsAtAnyNumber(t *testing.T) {
 func TestAnswersDependOnArgumentsAlone(t *testing.T) {
 	var texts []string
 	var first []answers
-	for text := range anyTexts(400) {
+	keep := func(text string) {
 		texts = append(texts, text)
 		first = append(first, ask(text))
 	}
+	for text := range anyTexts(400) {
+		keep(text)
+	}
+	for text := range anyTextsOf(runners, 40, 400) {
+		keep(text)
+	}
 	for i := len(texts) - 1; i >= 0; i-- {
-		spoilt := ask(texts[i])
-		clear(spoilt.runes)
-		clear(spoilt.clusters)
+		answer := ask(texts[i])
+		answer.spoil()
 		if again := ask(strings.Clone(texts[i])); !again.equal(first[i]) {
 			t.Errorf("P2: %+q: %v, then %v", texts[i], first[i], again)
 		}
@@ -87,21 +135,14 @@ func TestAnswersShareNoMemory(t *testing.T) {
 	const text = "xe\u0301\r\n\u05D0"
 	want := ask(text)
 	one, two := ask(text), ask(text)
-	for i := range one.runes {
-		one.runes[i] = api.Rune{Rune: -1, From: -1, To: -1}
-	}
-	for i := range one.clusters {
-		one.clusters[i] = -1
-	}
-	one.runes = append(one.runes, api.Rune{})
-	one.clusters = append(one.clusters, -1)
+	one.spoil()
 	if !two.equal(want) {
 		t.Errorf("P2: %v became %v", want, two)
 	}
 }
 
 func TestCallsAtTheSameTime(t *testing.T) {
-	const text = "a\u0301\U0001F1E6\U0001F1E7\U0001F1E8\xFF"
+	const text = "a\u0301\U0001F1E6\U0001F1E7\U0001F1E8\xFF(\u2067[\u05D0])\u2069{1}"
 	want := ask(text)
 	var wait sync.WaitGroup
 	for range 8 {

@@ -4,6 +4,7 @@ package caret
 import (
 	"caret/api"
 	"caret/clusters"
+	"caret/levels"
 	"caret/runes"
 )
 
@@ -23,4 +24,13 @@ func Clusters(text string) []int { return clusters.Bounds(text) }
 func Snap(text string, offset int, up bool) int { return clusters.Snap(text, offset, up) }
 
 // Levels tells the level of each rune, and the paragraph's (P7, P8).
-func Levels(text string, base int) ([]int, int, api.Errno) { return nil, 0, api.OK }
+func Levels(text string, base int) ([]int, int, api.Errno) {
+	switch {
+	case len(text) > api.MaxText:
+		return nil, 0, api.ErrLong
+	case base != api.FromLeft && base != api.FromRight && base != api.ByText:
+		return nil, 0, api.ErrBase
+	}
+	list, paragraph := levels.Of(text, base)
+	return list, paragraph, api.OK
+}

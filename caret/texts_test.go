@@ -1,6 +1,11 @@
 package caret_test
 
-import "iter"
+import (
+	"iter"
+	"maps"
+	"slices"
+	"strings"
+)
 
 // One rune of each kind and some more, and bytes that are no part of a rune.
 var pieces = []string{
@@ -28,8 +33,10 @@ func allTexts(parts []string, most int) iter.Seq[string] {
 	}
 }
 
-// anyTexts: some longer texts, the same ones each time.
-func anyTexts(count int) iter.Seq[string] {
+func anyTexts(count int) iter.Seq[string] { return anyTextsOf(pieces, 40, count) }
+
+// anyTextsOf: some longer texts of fewer than most parts, the same ones each time.
+func anyTextsOf(parts []string, most, count int) iter.Seq[string] {
 	return func(yield func(string) bool) {
 		seed := uint32(1)
 		next := func(below int) int {
@@ -38,8 +45,8 @@ func anyTexts(count int) iter.Seq[string] {
 		}
 		for range count {
 			text := ""
-			for range next(40) {
-				text += pieces[next(len(pieces))]
+			for range next(most) {
+				text += parts[next(len(parts))]
 			}
 			if !yield(text) {
 				return
@@ -47,3 +54,33 @@ func anyTexts(count int) iter.Seq[string] {
 		}
 	}
 }
+
+// A rune of each class.
+var samples = map[string]string{
+	"L": "a", "R": "\u05D0", "AL": "\u0627", "EN": "1", "ES": "+", "ET": "$", "AN": "\u0666", "CS": ",",
+	"NSM": "\u0301", "BN": "\u200B", "B": "\n", "S": "\t", "WS": " ", "ON": "!",
+	"LRE": "\u202A", "RLE": "\u202B", "PDF": "\u202C", "LRO": "\u202D", "RLO": "\u202E",
+	"LRI": "\u2066", "RLI": "\u2067", "FSI": "\u2068", "PDI": "\u2069",
+}
+
+// A rune of each class, and brackets.
+var runners = append(slices.Sorted(maps.Values(samples)), "(", ")", "[", "]", "{", "}", "\u3008", "\u3009", "\u300A", "\u300B")
+
+// spelled reads words, with blanks between: the name of a class is its sample, LRE*3 three LREs; other words stand for themselves.
+func spelled(words string) []string {
+	var parts []string
+	for _, word := range strings.Fields(words) {
+		name, times, repeated := strings.Cut(word, "*")
+		part, found := samples[name]
+		if !found {
+			part = name
+		}
+		if repeated {
+			part = strings.Repeat(part, int(times[0]-'0'))
+		}
+		parts = append(parts, part)
+	}
+	return parts
+}
+
+func spell(words string) string { return strings.Join(spelled(words), "") }
