@@ -6,6 +6,7 @@ import (
 	"caret/clusters"
 	"caret/levels"
 	"caret/runes"
+	"caret/setups"
 )
 
 // Decode reads a text (P3).
@@ -25,11 +26,8 @@ func Snap(text string, offset int, up bool) int { return clusters.Snap(text, off
 
 // Levels tells the level of each rune, and the paragraph's (P7, P8).
 func Levels(text string, base int) ([]int, int, api.Errno) {
-	switch {
-	case len(text) > api.MaxText:
-		return nil, 0, api.ErrLong
-	case base != api.FromLeft && base != api.FromRight && base != api.ByText:
-		return nil, 0, api.ErrBase
+	if err := setups.CheckText(text, base); err != nil {
+		return nil, 0, setups.Number(err)
 	}
 	list, paragraph := levels.Of(text, base)
 	return list, paragraph, api.OK

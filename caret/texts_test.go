@@ -35,20 +35,28 @@ func allTexts(parts []string, most int) iter.Seq[string] {
 
 func anyTexts(count int) iter.Seq[string] { return anyTextsOf(pieces, 40, count) }
 
+// dice: chances that fall the same way each time.
+type dice uint32
+
+func (d *dice) below(count int) int {
+	*d = *d*1664525 + 1013904223
+	return int(*d>>16) % count
+}
+
+func (d *dice) text(parts []string, most int) string {
+	text := ""
+	for range d.below(most) {
+		text += parts[d.below(len(parts))]
+	}
+	return text
+}
+
 // anyTextsOf: some longer texts of fewer than most parts, the same ones each time.
 func anyTextsOf(parts []string, most, count int) iter.Seq[string] {
 	return func(yield func(string) bool) {
-		seed := uint32(1)
-		next := func(below int) int {
-			seed = seed*1664525 + 1013904223
-			return int(seed>>16) % below
-		}
+		d := dice(1)
 		for range count {
-			text := ""
-			for range next(most) {
-				text += parts[next(len(parts))]
-			}
-			if !yield(text) {
+			if !yield(d.text(parts, most)) {
 				return
 			}
 		}

@@ -7,6 +7,9 @@ func initiates(known api.Class) bool {
 	return known == api.LRI || known == api.RLI || known == api.FSI
 }
 
+// SetsApart tells initiators and PDI, by the table too.
+func SetsApart(known api.Class) bool { return initiates(known) || known == api.PDI }
+
 // partnersIn finds the partner of each initiator that has one. What is one within the other ends first: so a PDI belongs to the last initiator that is still open.
 func partnersIn(units []unit) map[int]int {
 	partners := map[int]int{}

@@ -57,8 +57,8 @@ func levelToward(right bool) int {
 	return 0
 }
 
-// passedOver is asked of the class by the table, as no override reaches these.
-func passedOver(known api.Class) bool {
+// PassedOver is asked of the class by the table, as no override reaches these.
+func PassedOver(known api.Class) bool {
 	switch known {
 	case api.BN, api.LRE, api.RLE, api.LRO, api.RLO, api.PDF:
 		return true
@@ -70,7 +70,7 @@ func passedOver(known api.Class) bool {
 func (p *paragraph) settlePassedOver() {
 	ahead := p.level
 	for i := range p.units {
-		if passedOver(p.units[i].known) {
+		if PassedOver(p.units[i].known) {
 			p.units[i].level = ahead
 		}
 		ahead = p.units[i].level

@@ -22,7 +22,7 @@ type sequence struct {
 func (p *paragraph) runs() []run {
 	var runs []run
 	for place, u := range p.units {
-		if passedOver(u.known) {
+		if PassedOver(u.known) {
 			continue
 		}
 		last := len(runs) - 1

@@ -19,13 +19,11 @@ func (s *sequence) settleMarks() {
 			continue
 		}
 		u.class = s.ahead(i)
-		if i > 0 && setsApart(s.units[i-1].known) {
+		if i > 0 && SetsApart(s.units[i-1].known) {
 			u.class = api.ON
 		}
 	}
 }
-
-func setsApart(known api.Class) bool { return initiates(known) || known == api.PDI }
 
 // turnNumbers: EN whose last letter ahead has one class becomes another.
 func (s *sequence) turnNumbers(letter, to api.Class) {
