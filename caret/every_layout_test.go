@@ -19,6 +19,9 @@ type told struct {
 	xs       []int64
 	normals  []api.Caret
 	hits     []api.Caret
+	moves    []api.Caret
+	moved    []bool
+	selects  [][]api.Span
 }
 
 // Numbers of each size, on both sides of 0.
@@ -42,15 +45,28 @@ func tell(l *caret.Layout, numbers []int) told {
 		for _, m := range []int{0, n, other} {
 			a.normals = append(a.normals, l.Normal(gap(n, m)), l.Normal(gap(m, n)))
 			a.hits = append(a.hits, l.Hit(n, int64(m)), l.Hit(m, int64(n)))
+			a.selects = append(a.selects, l.Select(n, m), l.Select(m, n))
 		}
+		a.move(l, n, other)
 	}
 	return a
+}
+
+// move does each thing that Move knows, and one that it may not know.
+func (a *told) move(l *caret.Layout, number, other int) {
+	for _, do := range []int{api.Left, api.Right, api.Next, api.Prev, api.Home, api.End, api.Up, api.Down, api.Click, number} {
+		for _, c := range []api.Caret{at(number), back(number), at(other)} {
+			to, moved := l.Move(do, c, int64(other))
+			a.moves, a.moved = append(a.moves, to), append(a.moved, moved)
+		}
+	}
 }
 
 func (a told) equal(b told) bool {
 	return slices.Equal(a.clusters, b.clusters) && slices.EqualFunc(a.lines, b.lines, equalLines) &&
 		slices.Equal(a.places, b.places) && slices.Equal(a.gaps, b.gaps) && slices.Equal(a.xs, b.xs) &&
-		slices.Equal(a.normals, b.normals) && slices.Equal(a.hits, b.hits)
+		slices.Equal(a.normals, b.normals) && slices.Equal(a.hits, b.hits) &&
+		slices.Equal(a.moves, b.moves) && slices.Equal(a.moved, b.moved) && slices.EqualFunc(a.selects, b.selects, slices.Equal)
 }
 
 // spoil does to an answer what a caller may do to it.
@@ -64,6 +80,12 @@ func (a *told) spoil() {
 		a.lines[i] = api.Line{From: -1, To: -1}
 	}
 	a.lines = append(a.lines, api.Line{})
+	for i, spans := range a.selects {
+		for k := range spans {
+			spans[k] = api.Span{Line: -1, From: -1, To: -1, Left: -1, Right: -1}
+		}
+		a.selects[i] = append(spans, api.Span{})
+	}
 }
 
 func spoilLine(line *api.Line) {

@@ -1,6 +1,7 @@
 package caret_test
 
 import (
+	"iter"
 	"math"
 	"math/big"
 	"slices"
@@ -18,17 +19,18 @@ type tables struct {
 
 func bothTables(t *testing.T) tables { return tables{wantedClasses(t), wantedKinds(t)} }
 
-// drawn: a layout as the document's sentences say it; which line each cluster stands on, and at which place there.
+// drawn: a layout as the document's sentences say it; which line each cluster stands on, and at which place there; the paragraph's level.
 type drawn struct {
 	clusters    []api.Cluster
 	lines       []api.Line
 	line, place []int
+	paragraph   int
 }
 
 func drawnByRules(s api.Setup, known tables) drawn {
 	bounds := boundsByRules(s.Text, known.kinds)
 	levels, paragraph := levelsByRules(s.Text, s.Base, known.classes)
-	var d drawn
+	d := drawn{paragraph: paragraph}
 	from := 0
 	for _, to := range append(slices.Clone(s.Breaks), len(s.Text)) {
 		line := api.Line{From: from, To: to, X: []int64{0}}
@@ -224,23 +226,31 @@ func (d drawn) checkGaps(t *testing.T, s api.Setup, l *caret.Layout) {
 	}
 }
 
-// Each way to break each short text, as far as New takes it.
+// brokenAnyWay: from each base, each way to break a text, as far as New takes it.
+func brokenAnyWay(text string, known tables) iter.Seq[api.Setup] {
+	return func(yield func(api.Setup) bool) {
+		bounds := boundsByRules(text, known.kinds)
+		ways := 1 << max(len(bounds)-2, 0)
+		for way := range ways * 3 {
+			s := broken(text, way/ways)
+			for i := range max(len(bounds)-2, 0) {
+				if way>>i&1 == 1 {
+					s.Breaks = append(s.Breaks, bounds[i+1])
+				}
+			}
+			if faultByRules(s, known) == api.OK && !yield(s) {
+				return
+			}
+		}
+	}
+}
+
 func TestLayoutsOfShortTexts(t *testing.T) {
 	known := bothTables(t)
 	for _, words := range []string{"L R WS EN", "L R S BN", "R RLO PDF WS", "R LRI PDI WS", "L R NSM B", "RLE AN LRE L"} {
 		for text := range allTexts(spelled(words), 4) {
-			bounds := boundsByRules(text, known.kinds)
-			ways := 1 << max(len(bounds)-2, 0)
-			for way := range ways * 3 {
-				s := broken(text, way/ways)
-				for i := range max(len(bounds)-2, 0) {
-					if way>>i&1 == 1 {
-						s.Breaks = append(s.Breaks, bounds[i+1])
-					}
-				}
-				if faultByRules(s, known) == api.OK {
-					checkLayout(t, s, known)
-				}
+			for s := range brokenAnyWay(text, known) {
+				checkLayout(t, s, known)
 			}
 		}
 	}

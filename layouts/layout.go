@@ -14,6 +14,7 @@ import (
 type Layout struct {
 	signs
 	lines
+	rightward int // from a line to the next one on the right: 1, or -1 where the paragraph runs to the left
 }
 
 // New lays a text out; what is wrong with the setup it tells as a setups.Fault.
@@ -26,7 +27,7 @@ func New(s api.Setup) (*Layout, error) {
 	leveled, paragraph := levels.Of(s.Text, s.Base)
 	settleEnds(text, leveled, paragraph, edges)
 	c := signsOf(s, text, leveled)
-	return &Layout{signs: c, lines: c.linesBetween(edges)}, nil
+	return &Layout{signs: c, lines: c.linesBetween(edges), rightward: 1 - 2*paragraph}, nil
 }
 
 // Clusters tells the clusters, in the order of the text.

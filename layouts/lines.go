@@ -13,6 +13,10 @@ type lines []api.Line
 
 func (n lines) nearest(line int) int { return nearest(line, len(n)-1) }
 
+func (n lines) has(line int) bool { return n.nearest(line) == line }
+
+func (n lines) lastGap(line int) int { return len(n[line].Order) }
+
 // holding tells which line holds what begins at a byte.
 func (n lines) holding(from int) int {
 	return slices.IndexFunc(n, func(line api.Line) bool { return from < line.To })

@@ -34,6 +34,9 @@ func (c signs) at(bound int) int {
 	return number
 }
 
+// bound is the byte of a boundary, or of the nearest one that there is.
+func (c signs) bound(number int) int { return c.bounds[nearest(number, len(c.bounds)-1)] }
+
 func (c signs) runsLeft(cluster int) bool { return c.levels[cluster]%2 == 1 }
 
 // side is the caret at the left or the right of a cluster.

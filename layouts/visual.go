@@ -25,12 +25,8 @@ func (c signs) visualOrder(from, to int) []int {
 
 // turnRound turns round what stands together and has this level or a greater one.
 func (c signs) turnRound(order []int, level int) {
-	from := 0
-	for to := range len(order) + 1 {
-		if to < len(order) && c.levels[order[to]] >= level {
-			continue
-		}
-		slices.Reverse(order[from:to])
-		from = to + 1
+	deep := func(cluster int) bool { return c.levels[cluster] >= level }
+	for _, p := range parts(order, deep) {
+		slices.Reverse(order[p.from:p.to])
 	}
 }
