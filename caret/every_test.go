@@ -28,6 +28,8 @@ type answers struct {
 	clusters []int
 	snapped  [8]int
 	leveled  [4]leveled
+	words    []int
+	wrapped  [4][]int
 }
 
 func ask(text string) answers {
@@ -40,6 +42,10 @@ func ask(text string) answers {
 		l := &a.leveled[base]
 		l.levels, l.paragraph, l.err = caret.Levels(text, base)
 	}
+	a.words = caret.Words(text)
+	for i, room := range []int{math.MinInt, 0, 25, math.MaxInt} {
+		a.wrapped[i] = caret.Wrap(text, tens(text), room)
+	}
 	return a
 }
 
@@ -49,7 +55,12 @@ func (a answers) equal(b answers) bool {
 			return false
 		}
 	}
-	return slices.Equal(a.runes, b.runes) && slices.Equal(a.clusters, b.clusters) && a.snapped == b.snapped
+	for i := range a.wrapped {
+		if !slices.Equal(a.wrapped[i], b.wrapped[i]) {
+			return false
+		}
+	}
+	return slices.Equal(a.words, b.words) && slices.Equal(a.runes, b.runes) && slices.Equal(a.clusters, b.clusters) && a.snapped == b.snapped
 }
 
 // spoil does to an answer what a caller may do to it.
@@ -61,6 +72,10 @@ func (a *answers) spoil() {
 	a.clusters = spoilt(a.clusters)
 	for base := range a.leveled {
 		a.leveled[base].levels = spoilt(a.leveled[base].levels)
+	}
+	a.words = spoilt(a.words)
+	for i := range a.wrapped {
+		a.wrapped[i] = spoilt(a.wrapped[i])
 	}
 }
 
