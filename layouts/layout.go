@@ -22,12 +22,17 @@ func New(s api.Setup) (*Layout, error) {
 	if err := setups.Check(s); err != nil {
 		return nil, err
 	}
+	return Lay(s), nil
+}
+
+// Lay lays a text out, where it is known that nothing is wrong with the setup.
+func Lay(s api.Setup) *Layout {
 	text := runes.Decode(s.Text)
 	edges := slices.Concat([]int{0}, s.Breaks, []int{len(s.Text)})
 	leveled, paragraph := levels.Of(s.Text, s.Base)
 	settleEnds(text, leveled, paragraph, edges)
 	c := signsOf(s, text, leveled)
-	return &Layout{signs: c, lines: c.linesBetween(edges), rightward: 1 - 2*paragraph}, nil
+	return &Layout{signs: c, lines: c.linesBetween(edges), rightward: 1 - 2*paragraph}
 }
 
 // Clusters tells the clusters, in the order of the text.

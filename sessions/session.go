@@ -17,11 +17,19 @@ type Session struct {
 // Begin begins a session at the beginning of a text: byte 0 is the caret that is meant there, whatever the text.
 func Begin(l *layouts.Layout) *Session { return &Session{layout: l} }
 
+// Resume begins a session in which something is selected already.
+func Resume(l *layouts.Layout, anchor, focus api.Caret) *Session {
+	return &Session{layout: l, anchor: l.Place(anchor), focus: l.Place(focus)}
+}
+
+// Ends tells where the selection begins and where it ends.
+func (s *Session) Ends() (anchor, focus api.Caret) { return s.anchor, s.focus }
+
 // Do does something, and tells what has come of it.
 func (s *Session) Do(op api.Op) api.State {
 	todo := deedOf(op)
 	if todo == nil {
-		return s.state(false)
+		return s.State(false)
 	}
 	s.aim(todo.aims())
 	to, moved := s.target(todo)
@@ -29,7 +37,7 @@ func (s *Session) Do(op api.Op) api.State {
 	if !op.Extend {
 		s.anchor = to
 	}
-	return s.state(moved)
+	return s.State(moved)
 }
 
 // aim sets the goal ahead of the first deed that goes for it.
@@ -56,7 +64,8 @@ func (s *Session) target(todo deed) (api.Caret, bool) {
 	return to, to != s.focus
 }
 
-func (s *Session) state(moved bool) api.State {
+// State tells what the session is, behind something that moved or did not.
+func (s *Session) State(moved bool) api.State {
 	l, at := s.layout, s.focus.Offset
 	return api.State{
 		Anchor:   s.anchor,

@@ -56,6 +56,14 @@ func checkWidths(text string, widths []int) error {
 	return nil
 }
 
+// CheckMetric tells what is wrong with how wide runes are.
+func CheckMetric(m api.Metric) error {
+	if outOfRange(m.Narrow) || outOfRange(m.Wide) {
+		return &Fault{Number: api.ErrWidths, Cause: errRange}
+	}
+	return nil
+}
+
 func outOfRange(width int) bool { return width < 0 || width > api.MaxWidth }
 
 func checkBreaks(bounds, breaks []int) error {

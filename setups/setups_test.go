@@ -61,6 +61,19 @@ func TestNothingWrong(t *testing.T) {
 	}
 }
 
+func TestWidthsOfAMetric(t *testing.T) {
+	for _, m := range []api.Metric{{Narrow: -1}, {Wide: -1}, {Narrow: api.MaxWidth + 1}, {Wide: api.MaxWidth + 1}} {
+		if err := CheckMetric(m); Number(err) != api.ErrWidths || !errors.Is(err, errRange) {
+			t.Errorf("P27: %v: %v", m, err)
+		}
+	}
+	for _, m := range []api.Metric{{}, {Narrow: api.MaxWidth, Wide: api.MaxWidth}, {Narrow: 1}} {
+		if err := CheckMetric(m); err != nil {
+			t.Errorf("P27: %v: %v", m, err)
+		}
+	}
+}
+
 func TestEachNumberHasAMeaningOfItsOwn(t *testing.T) {
 	seen := map[string]api.Errno{}
 	for number := api.OK; number <= api.ErrBlock; number++ {
